@@ -4,7 +4,8 @@ from growinganswers.book import answers
 
 GREATEST = 2147483647
 
-# By a call's number: its whole numbers, beside its row. Told here anew, so that the program's own table is tested.
+# By a call's name: its number, how many whole numbers it has, whether it has a row.
+# Told here anew, so that the program's own table is tested.
 SHAPES = {
     "begin": (0, 2, False), "answer": (1, 2, False), "table": (2, 0, True), "behind": (3, 0, True),
     "lift": (4, 0, False), "sink": (5, 0, False), "at": (6, 1, False), "grows": (7, 0, False),
