@@ -31,6 +31,13 @@ class Book:
     def has_begun(self):
         return self.given != []
 
+    def count_inputs(self):
+        # There are 2 to the power of it sets of inputs.
+        return len(self.given).bit_length() - 1
+
+    def has_input(self, k):
+        return k < self.count_inputs()
+
     def has_inputs(self, x):
         return x < len(self.given)
 
@@ -46,6 +53,37 @@ class Book:
 
 def is_part(x, y):
     return (x & y) == x
+
+
+def count_members(x):
+    count = 0
+    while x != 0:
+        count = count + (x & 1)
+        x = x >> 1
+    return count
+
+
+def parts_of(x):
+    return [y for y in range(x + 1) if is_part(y, x)]
+
+
+def still_open(given, x, z):
+    """The sets of inputs that it may end with, x known and z sealed; x is one of them if no input is in both."""
+    return [y for y in range(len(given)) if is_part(x, y) and (y & z) == 0]
+
+
+def given_of_any(given, sets):
+    told = 0
+    for x in sets:
+        told = told | given[x]
+    return told
+
+
+def given_of_each(given, sets):
+    kept = given[sets[0]]
+    for x in sets:
+        kept = kept & given[x]
+    return kept
 
 
 def first_loss(given):
@@ -68,25 +106,45 @@ def first_surplus(given):
 
 
 def table_above(given):
-    lifted = []
-    for x in range(len(given)):
-        told = 0
-        for y in range(len(given)):
-            if is_part(y, x):
-                told = told | given[y]
-        lifted.append(told)
-    return lifted
+    return [given_of_any(given, parts_of(x)) for x in range(len(given))]
 
 
 def table_below(given):
-    sunk = []
-    for x in range(len(given)):
-        kept = given[x]
-        for y in range(len(given)):
-            if is_part(x, y):
-                kept = kept & given[y]
-        sunk.append(kept)
-    return sunk
+    return [given_of_each(given, still_open(given, x, 0)) for x in range(len(given))]
+
+
+def table_alone(given, o):
+    """What's given, if answer o is the only one that's looked at."""
+    return [v & (1 << o) for v in given]
+
+
+def least_sets(given, o):
+    alone = table_alone(given, o)
+    found = []
+    for x in range(len(alone)):
+        lesser = [y for y in parts_of(x) if y != x]
+        if alone[x] != 0 and given_of_any(alone, lesser) == 0:
+            found.append(x)
+    return found
+
+
+def fewest_sealed(given, x, o):
+    """How many inputs have to be sealed, and the first such set; o is given of x, so all but x's are enough."""
+    alone = table_alone(given, o)
+    fewest = []
+    for z in range(len(alone)):
+        enough = (x & z) == 0 and given_of_each(alone, still_open(alone, x, z)) != 0
+        if enough and (fewest == [] or count_members(z) < fewest[0]):
+            fewest = [count_members(z), z]
+    return fewest
+
+
+def steps_of(order):
+    """The sets of inputs that are there: at first none, then behind each input."""
+    steps = [0]
+    for k in order:
+        steps.append(steps[-1] | (1 << k))
+    return steps
 
 
 def count_changes(old, new):
@@ -104,6 +162,14 @@ def shown_or_refused(found):
 
 def is_row_of_answers(book, row, length):
     return len(row) == length and all([book.has_answers(v) for v in row])
+
+
+def is_order(book, row):
+    return all([book.has_input(k) and row.count(k) == 1 for k in row])
+
+
+def is_known_and_sealed(book, x, z):
+    return book.has_inputs(x) and book.has_inputs(z) and (x & z) == 0
 
 
 def call_begin(book, numbers):
@@ -179,8 +245,94 @@ def call_grows_one(book, numbers):
     o = numbers[0]
     if not book.has_answer(o):
         return [NO_SUCH_ANSWER]
-    alone = [v & (1 << o) for v in book.given]
-    return yes_or_no(first_loss(alone) == [])
+    return yes_or_no(first_loss(table_alone(book.given, o)) == [])
+
+
+def call_sure(book, numbers):
+    x = numbers[0]
+    z = numbers[1]
+    if not is_known_and_sealed(book, x, z):
+        return [NOT_AS_TOLD]
+    return [given_of_each(book.given, still_open(book.given, x, z))]
+
+
+def call_may(book, numbers):
+    x = numbers[0]
+    z = numbers[1]
+    if not is_known_and_sealed(book, x, z):
+        return [NOT_AS_TOLD]
+    return [given_of_any(book.given, still_open(book.given, x, z))]
+
+
+def call_waits(book, numbers):
+    x = numbers[0]
+    o = numbers[1]
+    if not book.has_answer(o):
+        return [NO_SUCH_ANSWER]
+    if not book.has_inputs(x):
+        return [NOT_AS_TOLD]
+    if (book.given[x] & (1 << o)) == 0:
+        return [NOTHING_TO_SHOW]
+    return fewest_sealed(book.given, x, o)
+
+
+def call_told(book, row):
+    if not is_order(book, row):
+        return [NOT_AS_TOLD]
+    steps = steps_of(row)
+    return [len(steps)] + [book.given[x] for x in steps]
+
+
+def call_wrong(book, row):
+    if not is_order(book, row):
+        return [NOT_AS_TOLD]
+    steps = steps_of(row)
+    return [given_of_any(book.given, steps) & ~book.given[steps[-1]]]
+
+
+def call_worst(book, numbers):
+    x = numbers[0]
+    if not book.has_inputs(x):
+        return [NOT_AS_TOLD]
+    # Each part of x is a step of some order of x's inputs.
+    return [given_of_any(book.given, parts_of(x)) & ~book.given[x]]
+
+
+def call_apart(book, row):
+    if row == [] or not all([book.has_inputs(x) for x in row]):
+        return [NOT_AS_TOLD]
+    together = 0
+    for x in row:
+        together = together | x
+    apart = given_of_any(book.given, row)
+    whole = book.given[together]
+    return [apart, whole, whole & ~apart, apart & ~whole]
+
+
+def call_least(book, numbers):
+    o = numbers[0]
+    if not book.has_answer(o):
+        return [NO_SUCH_ANSWER]
+    found = least_sets(book.given, o)
+    return [len(found)] + found
+
+
+def call_up(book, numbers):
+    return [len(book.given)] + table_above(book.given)
+
+
+def call_down(book, numbers):
+    return [len(book.given)] + table_below(book.given)
+
+
+def call_grade(book, numbers):
+    if first_surplus(book.given) == []:
+        return [0]
+    return [1] if first_loss(book.given) == [] else [2]
+
+
+def call_state(book, numbers):
+    return [book.count_inputs(), book.answer_count] + book.given
 
 
 # By a call's number: what answers it.
@@ -197,14 +349,24 @@ ACTIONS = (
     call_adds,
     call_parts,
     call_grows_one,
+    call_sure,
+    call_may,
+    call_waits,
+    call_told,
+    call_wrong,
+    call_worst,
+    call_apart,
+    call_least,
+    call_up,
+    call_down,
+    call_grade,
+    call_state,
 )
 
 
 def answer_call(book, number, numbers):
     if number != BEGIN and not book.has_begun():
         return [NOT_BEGUN]
-    if number >= len(ACTIONS):
-        raise NotImplementedError(f"call {number} is not built yet")
     action = ACTIONS[number]
     return action(book, numbers)
 

@@ -21,6 +21,38 @@ class TheForm(unittest.TestCase):
         line = [0, 2, 2, 1, 0, 3, 7, 8, 9, 10, 8, 11, 1, 6, 0]
         self.assertEqual(answers(line), [1, 0, 1, 0, 1, 0, 3, 0, 1, 3, 1, 0, 2, 0, 1, 3, 0, 1, 3, 1, 0, 1, 3])
 
+    def test_each_answer_of_the_calls_12_to_23_has_its_count_before_it(self):
+        begun = [0, 2, 2, 2, 4, 1, 2, 3, 0]
+        for line, told in (
+            ([12, 0, 1], [1, 1]), ([13, 1, 2], [1, 2]), ([14, 2, 1], [2, 1, 1]), ([14, 0, 0], [2, 1, 1]),
+            ([15, 2, 1, 0], [4, 3, 1, 3, 0]), ([15, 0], [2, 1, 1]), ([16, 2, 0, 1], [1, 3]), ([16, 0], [1, 0]),
+            ([17, 1], [1, 1]), ([18, 2, 1, 2], [4, 3, 0, 0, 3]), ([19, 1], [3, 2, 1, 2]), ([19, 0], [2, 1, 0]),
+            ([20], [5, 4, 1, 3, 3, 3]), ([21], [5, 4, 0, 0, 0, 0]), ([22], [1, 2]), ([23], [6, 2, 2, 1, 2, 3, 0]),
+        ):
+            with self.subTest(line):
+                self.assertEqual(answers(begun + line), [1, 0, 1, 0] + told)
+
+    def test_the_calls_12_to_23_one_behind_another(self):
+        line = [0, 2, 2, 2, 4, 1, 2, 3, 0]
+        line += [12, 0, 1, 13, 1, 2, 14, 2, 1, 15, 2, 1, 0, 16, 2, 0, 1, 17, 1, 18, 2, 1, 2, 19, 1, 20, 21, 22, 23]
+        told = [1, 0, 1, 0]
+        told += [1, 1, 1, 2, 2, 1, 1, 4, 3, 1, 3, 0, 1, 3, 1, 1, 4, 3, 0, 0, 3, 3, 2, 1, 2, 5, 4, 1, 3, 3, 3]
+        told += [5, 4, 0, 0, 0, 0, 1, 2, 6, 2, 2, 1, 2, 3, 0]
+        self.assertEqual(answers(line), told)
+
+    def test_the_longest_and_the_shortest_answers(self):
+        self.assertEqual(answers([0, 4, 3, 20, 21, 23]),
+                         [1, 0, 17, 16] + [0] * 16 + [17, 16] + [0] * 16 + [18, 4, 3] + [0] * 16)
+        self.assertEqual(answers([0, 1, 1, 20, 21, 23, 19, 0]),
+                         [1, 0, 3, 2, 0, 0, 3, 2, 0, 0, 4, 1, 1, 0, 0, 1, 0])
+
+    def test_refusals_of_the_calls_12_to_23(self):
+        line = [0, 1, 1, 12, 2, 0, 13, 1, 1, 14, 2, 1, 14, 2, 0, 14, 0, 0, 15, 1, 1, 16, 2, 0, 0, 17, 2, 18, 0, 19, 1]
+        self.assertEqual(answers(line), [1, 0] + [1, -22] * 2 + [1, -2, 1, -22, 1, -33] + [1, -22] * 4 + [1, -2])
+
+    def test_an_empty_row_of_the_calls_12_to_23_does_not_swallow_the_next_call(self):
+        self.assertEqual(answers([0, 1, 1, 15, 0, 16, 0, 18, 0, 22]), [1, 0, 2, 1, 0, 1, 0, 1, -22, 1, 0])
+
     def test_a_refusal_is_its_number_alone(self):
         self.assertEqual(answers([0, 1, 1, 8, 10, 6, 2, 11, 1]), [1, 0, 1, -33, 1, -33, 1, -22, 1, -2])
 
@@ -46,7 +78,9 @@ class TheForm(unittest.TestCase):
 
     def test_whole_numbers_are_int_alone(self):
         line = [("begin", 2, 2), ("grows",), ("adds",), ("grows_one", 0), ("answer", 0, 1), ("grows",), ("adds",),
-                ("grows_one", 0), ("lift",), ("sink",), ("at", 3), ("shrinks",), ("parts",)]
+                ("grows_one", 0), ("sure", 0, 3), ("may", 0, 0), ("waits", 0, 0), ("told", [0, 1]), ("wrong", [1]),
+                ("worst", 3), ("apart", [0, 1]), ("least", 0), ("least", 1), ("up",), ("down",), ("grade",),
+                ("state",), ("shrinks",), ("parts",), ("lift",), ("sink",), ("grade",), ("at", 3), ("shrinks",)]
         for number in answers(encode_all(line)):
             self.assertIs(type(number), int)
 
@@ -57,7 +91,9 @@ class TheForm(unittest.TestCase):
 class NothingChangedOrKept(unittest.TestCase):
     LINE = [("begin", 2, 2), ("table", [3, 1, 2, 0]), ("answer", 1, 2), ("behind", [3, 2, 1, 0]), ("lift",), ("sink",),
             ("at", 1), ("grows",), ("shrinks",), ("adds",), ("parts",), ("grows_one", 1), ("table", [1]),
-            ("answer", 9, 9)]
+            ("answer", 9, 9), ("table", [3, 1, 2, 0]), ("sure", 0, 1), ("may", 1, 0), ("waits", 0, 1),
+            ("told", [1, 0]), ("wrong", [0, 1]), ("worst", 3), ("apart", [1, 2, 3]), ("least", 1), ("up",), ("down",),
+            ("grade",), ("state",), ("told", [2]), ("wrong", [0, 0]), ("apart", []), ("sure", 1, 1), ("waits", 3, 0)]
 
     def test_what_is_handed_in_is_the_same_afterwards(self):
         line = encode_all(self.LINE)
@@ -86,6 +122,14 @@ class NothingChangedOrKept(unittest.TestCase):
         self.assertEqual(ask(("at", 0)), [[-61]])
         self.assertEqual(ask(*self.LINE), first)
 
+    def test_each_call_of_the_line_is_answered_as_alone(self):
+        # What one call looks up isn't kept for the next.
+        begun = [("begin", 2, 2), ("table", [3, 1, 2, 0])]
+        looks = self.LINE[self.LINE.index(("sure", 0, 1)):]
+        together = ask(*begun, *looks)[2:]
+        self.assertEqual(together, [ask_last(*begun, call) for call in looks])
+        self.assertEqual(ask(*begun, *reversed(looks))[2:], list(reversed(together)))
+
     def test_what_was_given_back_may_be_changed(self):
         said = answers([0, 1, 1, 8])
         said[1] = 99
@@ -107,7 +151,9 @@ class AheadOfABegin(unittest.TestCase):
 
     def test_minus_61_comes_ahead_of_other_refusals(self):
         line = [("answer", 16, 8), ("table", []), ("behind", [9]), ("at", GREATEST), ("grows_one", 3),
-                ("shrinks",), ("parts",)]
+                ("shrinks",), ("parts",), ("sure", 16, 0), ("sure", 1, 1), ("may", 0, GREATEST), ("waits", 16, 3),
+                ("waits", 0, GREATEST), ("told", [4]), ("told", [0, 0]), ("wrong", [GREATEST]), ("worst", 16),
+                ("apart", []), ("apart", [16]), ("least", 3), ("least", GREATEST)]
         self.assertEqual(ask(*line), [[-61]] * len(line))
 
     def test_what_was_refused_is_not_there_after_the_begin(self):

@@ -1,15 +1,8 @@
-"""The calls that only look: at, grows, shrinks, adds, parts, grows_one."""
+"""The calls that look at the table as a whole: at, grows, shrinks, adds, parts, grows_one."""
 
 import unittest
 
-from tests.helper import GREATEST, ask, ask_last, given_after
-
-
-def looked(answer_count, table, *calls):
-    """What these calls answer of a table."""
-    inputs = len(table).bit_length() - 1
-    return ask(("begin", inputs, answer_count), ("table", table), *calls)[2:]
-
+from tests.helper import GREATEST, ask_last, given_after, looked
 
 QUESTIONS = (("grows",), ("shrinks",), ("adds",), ("parts",))
 
